@@ -99,6 +99,24 @@ func TestBothModesAreThere(t *testing.T) {
 	}
 }
 
+func TestCodesAsLongAsTheRawBytesAreStored(t *testing.T) {
+	seen := 0
+	for seed := range int64(400) {
+		raw := append(noise(seed, 3), bytes.Repeat([]byte{byte(seed)}, int(seed%9))...)
+		code, _ := codec.Encode(2, raw)
+		b := made(t, 2, 0, 0, raw)
+		if stored := b.Head.Mode == api.ModeStored; stored != (len(code) >= len(raw)) {
+			t.Fatal(raw, len(code), b.Head)
+		}
+		if len(code) == len(raw) {
+			seen++
+		}
+	}
+	if seen == 0 {
+		t.Error("no code is as long as the raw bytes")
+	}
+}
+
 func TestMakeErrors(t *testing.T) {
 	for i, c := range []struct {
 		level, member, offset, n int

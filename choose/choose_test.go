@@ -181,6 +181,12 @@ func TestChainErrors(t *testing.T) {
 	if k, n, e := choose.Chain(0, nil, make([]byte, 2001)); e != api.ErrNone || k != 0 || n != 0 {
 		t.Error(e)
 	}
+	if k, n, e := choose.Chain(7, make([][]api.Filter, 1), nil); e != api.OK || k != 0 || n != 4 {
+		t.Error(e)
+	}
+	if n, e := choose.Coded(7, nil, nil); e != api.OK || n != 4 {
+		t.Error(e)
+	}
 	if k, n, e := choose.Chain(0, make([][]api.Filter, 8), nil); e != api.OK || k != 0 || n != 4 {
 		t.Error(e)
 	}

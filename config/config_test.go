@@ -109,7 +109,7 @@ func TestSetLines(t *testing.T) {
 	for _, line := range []string{
 		"", " ", "filter delta", "level 02", "level 8", "block 15", "block 4097", "group 17", "level", "level ", "level  2", " level 2", "level 2 ", "level 2\n", "level -1", "level +1",
 		"level 1x", "Level 1", "level 00", "block 064", "block 99999999999999999999", "group 1 6", "filter", "filter ", "filter delta ", "filter delta 0", "filter delta 9", "filter delta 01",
-		"filter delta 1 ", "filter delta1", "filter front ", "filter front 1", "filter runs 0", "filter fronts", "filter run", "plain ", "plainer", " plain", "plain 1", "filter  runs", "levels 3", "level\t2", "\xff",
+		"filter delta 1 ", "filter delta1", "filter front ", "filter front 1", "filter runs 0", "filter fronts", "filter run", "plain ", "plainer", " plain", "plain 1", "filter  runs", "levels 3", "level\t2", "\xff", "group :", "block 1:0", "block 2/5", "filter delta /", "level 1/", "block 1/99",
 	} {
 		if y, e := config.Set(x, line); e != api.ErrForm || !isZero(y) {
 			t.Errorf("%q: %v %v", line, y, e)

@@ -106,6 +106,8 @@ func TestPut(t *testing.T) {
 	said(t, "put a 0 xyz", "0")
 	said(t, "put a 100000 ", "0")
 	said(t, "put a 3 ", "0")
+	said(t, "put a 99 x", "99")
+	said(t, "put a 109 x", "109")
 	said(t, "put b 1 x", "many", "put a 200 x")
 	said(t, "put a 5 x", "5", "put a 200 x")
 	said(t, "put b 100 x", "105", "put a 200 x", "put a 5 x")
@@ -113,7 +115,7 @@ func TestPut(t *testing.T) {
 	said(t, "put a 100 x", "200", "put a 50 x", "put b 100 x")
 	said(t, "put b 0 x", "50", "put a 50 x", "put b 201 x")
 	for _, order := range []string{
-		"put", "put a", "put a 1", "put a 1 x y", "put  1 x", "put a  x", "put a 01 x", "put a -1 x", "put a +1 x", "put a 100001 x", "put a 1000000 x", "put a 1e1 x", "put " + strings.Repeat("n", 41) + " 1 x",
+		"put", "put a", "put a 1", "put a 1 x y", "put  1 x", "put a  x", "put a 01 x", "put a -1 x", "put a +1 x", "put a 100001 x", "put a 1000000 x", "put a 1e1 x", "put a : x", "put a 1: x", "put a 2/ x", "put a  x y", "put a 1 x  ", "put " + strings.Repeat("n", 41) + " 1 x",
 		"put \x7f 1 x", "put \xff 1 x", "Put a 1 x", " put a 1 x", "put a 1 x ", "put a 99999999999999999999 x", "puta 1 x", "put ä 1 x",
 	} {
 		said(t, order, "what")

@@ -88,7 +88,7 @@ func TestPossible(t *testing.T) {
 	}{
 		{4, script(set(3, 0)), api.OK}, {4, script(set(4, 0)), api.ErrRange}, {0, script(set(0, 0)), api.ErrRange},
 		{4, script(cut(4, 0)), api.OK}, {4, script(cut(0, 4)), api.OK}, {4, script(cut(0, 5)), api.ErrRange}, {4, script(cut(5, 0)), api.ErrRange},
-		{4, script(cut(1, math.MaxInt)), api.ErrRange}, {4, script(cut(math.MaxInt, math.MaxInt)), api.ErrRange},
+		{4, script(cut(2, 3)), api.ErrRange}, {4, script(cut(4, 1)), api.ErrRange}, {4, script(cut(2, 2)), api.OK}, {4, script(cut(1, math.MaxInt)), api.ErrRange}, {4, script(cut(math.MaxInt, math.MaxInt)), api.ErrRange},
 		{4, script(put(4, "x")), api.OK}, {4, script(put(5, "x")), api.ErrRange}, {4, script(put(5, "")), api.ErrRange}, {0, script(put(0, "x")), api.OK},
 		{most - 1, script(put(0, "x")), api.OK}, {most, script(put(0, "x")), api.ErrRange}, {most, script(put(0, "")), api.OK}, {most, script(cut(9, 1), put(0, "x")), api.OK},
 		{4, script(end(4)), api.OK}, {4, script(end(5)), api.ErrRange}, {4, script(end(0), end(0)), api.OK}, {4, script(end(0), set(0, 1)), api.ErrRange},

@@ -249,8 +249,11 @@ func TestChains(t *testing.T) {
 			t.Fatal(l, b, e)
 		}
 		if len(b) > 0 {
-			got[0]++
 			back[0]++
+			if !bytes.Equal(got, want) {
+				t.Fatal("memory is shared")
+			}
+			got[0]++
 			if !bytes.Equal(b, before) {
 				t.Fatal("memory is shared")
 			}

@@ -161,6 +161,13 @@ func TestHeadErrors(t *testing.T) {
 			t.Error(i, e)
 		}
 	}
+	whole := append(bytes.Clone(good), make([]byte, api.MaxArchive+1-len(good))...)
+	if _, _, n, e := list.Head(whole[:api.MaxArchive]); e != api.OK || n != size {
+		t.Error(n, e)
+	}
+	if _, _, n, e := list.Head(whole); e != api.ErrMany || n != 0 {
+		t.Error(n, e)
+	}
 	if _, _, n, e := list.Head(good[:size]); e != api.OK || n != size {
 		t.Error(n, e)
 	}

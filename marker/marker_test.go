@@ -162,6 +162,15 @@ func TestErrors(t *testing.T) {
 		t.Error(e)
 	}
 	most := long[1:]
+	if is, e := marker.At(most, api.MaxArchive); e != api.OK || is {
+		t.Error(e)
+	}
+	if l, e := marker.All(most); e != api.OK || len(l) != 0 {
+		t.Error(e)
+	}
+	if l, e := marker.Cut(most); e != api.OK || len(l) != 1 {
+		t.Error(e)
+	}
 	copy(most[len(most)-13:], mark)
 	if n, e := marker.Find(most, 5); e != api.OK || n != len(most)-13 {
 		t.Error(n, e)

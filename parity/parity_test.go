@@ -243,7 +243,7 @@ func TestRecoverErrors(t *testing.T) {
 	}{
 		{l, none, 0, p, api.ErrArg}, {l, none, 17, p, api.ErrArg}, {l, none[:4], 2, p, api.ErrArg}, {l, append(none[:5:5], false), 2, p, api.ErrArg}, {make([][]byte, 101), nil, 2, p, api.ErrArg},
 		{make([][]byte, 101), make([]bool, 101), 2, nil, api.ErrMany}, {make([][]byte, 100), make([]bool, 100), 2, make([][]byte, 50), api.OK},
-		{long, none, 2, nil, api.ErrMany}, {long, with(2), 2, p, api.ErrMany}, {long, with(3), 2, p, api.OK},
+		{[][]byte{make([]byte, 5000), nil}, none[:2], 2, make([][]byte, 1), api.OK}, {long, none, 2, nil, api.ErrMany}, {long, with(2), 2, p, api.ErrMany}, {long, with(3), 2, p, api.OK},
 		{l, none, 2, p[:2], api.ErrLost}, {l, none, 2, append(p[:3:3], nil), api.ErrLost}, {l, with(2, 3), 2, p, api.ErrLost}, {l, with(1, 2), 2, p, api.OK}, {l, with(0, 1, 4), 2, p, api.ErrLost},
 		{l, with(2), 2, bad, api.ErrForm}, {l, with(0, 4), 2, bad, api.OK}, {l, none, 2, bad, api.OK}, {l, with(0, 3), 2, bad, api.ErrForm}, {nil, nil, 5, nil, api.OK}, {nil, nil, 5, p, api.ErrLost},
 		{l, with(2, 3), 2, bad, api.ErrLost},

@@ -243,6 +243,11 @@ func TestErrors(t *testing.T) {
 	l := records(t, []api.Member{{Name: "a", Data: []byte("ab")}})
 	good := piece(t, 0, 0, "ab")
 	away, wrong, short, mode := good, good, good, good
+	first := good
+	first.At = 0
+	if parts, e := salvage.Parts(l, []api.Found{first}); e != api.OK || len(parts) != 1 {
+		t.Error(e)
+	}
 	away.At = -1
 	wrong.Head.Sum[3]++
 	short.Data = short.Data[:1]
