@@ -10,6 +10,7 @@ import (
 	"testing"
 
 	"bitloft/api"
+	"bitloft/block"
 	"bitloft/damage"
 	"bitloft/list"
 	"bitloft/pack"
@@ -253,6 +254,27 @@ func TestLost(t *testing.T) {
 	}
 }
 
+func TestBlocksThatAreAlike(t *testing.T) {
+	// The same bytes in another member are not this block, nor are other bytes in its place.
+	b, e := pack.Pack(api.Settings{Level: 1, Block: 60}, []api.Member{{Name: "a", Data: noise(1, 30)}, {Name: "b", Data: noise(1, 30)}})
+	if e != api.OK {
+		t.Fatal(e)
+	}
+	l, _ := list.List(b)
+	at, _ := list.Places(l)
+	if lost, e := shrink.Lost(b, script(cut(at[0], at[1]-at[0]))); e != api.OK || !slices.Equal(lost, []int{0}) {
+		t.Error(lost, e)
+	}
+	other, _ := block.Make(1, 0, 0, noise(2, 30))
+	w, _ := block.Write(other)
+	if lost, e := shrink.Lost(b, script(cut(at[0], at[1]-at[0]), put(at[0], w))); e != api.OK || !slices.Equal(lost, []int{0}) {
+		t.Error(lost, e)
+	}
+	if lost, e := shrink.Lost(b, script(put(at[0], w))); e != api.OK || len(lost) != 0 {
+		t.Error(lost, e)
+	}
+}
+
 func TestPick(t *testing.T) {
 	l := script(set(1, 2), put(3, []byte("abc")), end(9))
 	for _, kept := range [][]int{nil, {0}, {1}, {0, 2}, {0, 1, 2}} {
@@ -273,6 +295,13 @@ func TestErrors(t *testing.T) {
 	harmed[at[1]+45]++
 	good := script(set(1, 2), set(2, 3))
 	nine := slices.Repeat(script(cut(0, 0)), 9)
+	eight := []int{0, 1, 2, 3, 4, 5, 6, 7}
+	if is, e := shrink.Keeps(b, nine[:8], eight); e != api.OK || !is {
+		t.Error(is, e)
+	}
+	if p, e := shrink.Pick(nine[:8], eight); e != api.OK || len(p) != 8 {
+		t.Error(e)
+	}
 	if kept, e := shrink.Shrink(b, nine[:8]); e != api.OK || len(kept) != 0 {
 		t.Error(kept, e)
 	}
